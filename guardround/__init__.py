@@ -1,0 +1,1 @@
+"""Guardround: guards on a web who answer each call."""
