@@ -1,8 +1,35 @@
 """Webs for the tests, and the document's words over them, written apart from the program."""
 
 import itertools
+import unittest
 
+from guardround.errors import GuardError
 from guardround.webs import Web
+
+KINDS = ("one", "all")
+
+
+class WithRefusals(unittest.TestCase):
+    def assert_refused(self, refusal, call, *told):
+        """The very class, so that no refusal passes for another one."""
+        with self.assertRaises(GuardError) as caught:
+            call(*told)
+        self.assertIs(type(caught.exception), refusal)
+
+    def assert_told_anew(self, ask):
+        """A list that is told, or each list of a tuple, is another one each time and can be done with as one likes."""
+        first, again = ask(), ask()
+        self.assertEqual(first, again)
+        for one, other in zip(lists_in(first), lists_in(again)):
+            self.assertIsNot(one, other)
+        for one in lists_in(first):
+            one.append("something else")
+            one.reverse()
+        self.assertEqual(ask(), again)
+
+
+def lists_in(told):
+    return [told] if isinstance(told, list) else [one for one in told if isinstance(one, list)]
 
 
 def all_ties(places):
@@ -80,3 +107,61 @@ def parting(web, clubs):
     once = all(sum(place in some for some in clubs) == 1 for place in range(web.places))
     leasts = [some[:1] for some in clubs]
     return once and all(club(web, some) for some in clubs) and leasts == sorted(leasts)
+
+
+def in_parts():
+    """Webs of several parts, some of one place, their places lying among one another."""
+    return [Web(5, [(0, 2), (1, 4)]), Web(6, [(0, 3), (3, 5), (1, 2)]), Web(6, [(0, 2), (2, 4), (0, 4), (1, 3), (3, 5)]),
+            Web(7, [(0, 1), (1, 2), (2, 3), (0, 3), (5, 6)])]
+
+
+def plain_shapes(most):
+    """Webs without ties, in a row, in a ring, as a star, with all ties and in several parts."""
+    shapes = [make(places) for make in (bare, row, star, full) for places in range(1, most + 1)]
+    return shapes + [ring(places) for places in range(3, most + 1)] + in_parts()
+
+
+def every_standing(web):
+    return every_set(web.places)[1:]
+
+
+def free_places(web, standing):
+    return [place for place in range(web.places) if place not in standing]
+
+
+def every_move(web, standing):
+    """Each tuple of unlike places to which the guards may go, whatever is called."""
+    reach = [[place for place in range(web.places) if place == guard or tied(web, guard, place)] for guard in standing]
+    return [told for told in itertools.product(*reach) if len(set(told)) == len(told)]
+
+
+def every_answer(web, standing, call, kind):
+    told = [move for move in every_move(web, standing) if call in move]
+    if kind == "one":
+        told = [move for move in told if sum(a != b for a, b in zip(standing, move)) == 1]
+    return sorted(told)
+
+
+def behind(answer):
+    return tuple(sorted(answer))
+
+
+def duel(web, guards, kind):
+    """(the lasting standings, {the others: (round, call)}), straight by what the document says of rounds."""
+    standings = list(itertools.combinations(range(web.places), guards))
+    follow = {standing: {call: {behind(answer) for answer in every_answer(web, standing, call, kind)}
+                         for call in free_places(web, standing)} for standing in standings}
+    fallen = {}
+    for number in itertools.count(1):
+        ahead = set(fallen)
+        for standing in standings:
+            calls = [call for call, others in follow[standing].items() if others <= ahead]
+            if standing not in ahead and calls:
+                fallen[standing] = (number, min(calls))
+        if len(fallen) == len(ahead):
+            return [standing for standing in standings if standing not in fallen], fallen
+
+
+def with_guards(webs):
+    """Each web with each number of guards and either kind."""
+    return [(web, guards, kind) for web in webs for guards in range(1, web.places + 1) for kind in KINDS]

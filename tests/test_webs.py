@@ -1,17 +1,9 @@
 import itertools
 import unittest
 
-from example_webs import all_ties, bare, every_set, full, grid, ring, row, small_webs, star, tied
-from guardround.errors import BadPlaces, BadTie, GuardError, NoPlace
+from example_webs import WithRefusals, all_ties, bare, every_set, full, grid, ring, row, small_webs, star, tied
+from guardround.errors import BadPlaces, BadTie, NoPlace
 from guardround.webs import Web, near, parts_of, way_between, web_within
-
-
-class WithRefusals(unittest.TestCase):
-    def assert_refused(self, refusal, call, *told):
-        """The very class, so that no refusal passes for another one."""
-        with self.assertRaises(GuardError) as caught:
-            call(*told)
-        self.assertIs(type(caught.exception), refusal)
 
 
 class MakingAWeb(WithRefusals):
