@@ -6,10 +6,8 @@ from guardround.webs import near
 
 
 def refuse_no_call(web, standing, call):
-    if not 0 <= call < web.places:
-        raise NoCall(f"the web has no place {call}")
-    if call in standing:
-        raise NoCall(f"a guard stands at {call} already")
+    if not 0 <= call < web.places or call in standing:
+        raise NoCall("a call comes from a place of the web without a guard")
 
 
 def answers(web, standing, call, kind):

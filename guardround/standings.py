@@ -15,7 +15,7 @@ def ways_to_choose(places, size):
 
 def how_many(web, guards):
     if not 1 <= guards <= web.places:
-        raise BadGuards(f"the web has no standing of {guards} guards")
+        raise BadGuards("a web has standings of 1 guard up to as many as places")
     return ways_to_choose(web.places, guards)
 
 

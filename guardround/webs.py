@@ -8,7 +8,7 @@ MOST_PLACES = 60
 class Web:
     def __init__(self, places, ties):
         if not 1 <= places <= MOST_PLACES:
-            raise BadPlaces(f"a web has 1 to {MOST_PLACES} places, not {places}")
+            raise BadPlaces(f"a web has 1 to {MOST_PLACES} places")
         self.places = places
         self.ties = checked_ties(places, ties)
         # Every further question asks for near places, so they are sorted out once.
@@ -20,11 +20,11 @@ def checked_ties(places, ties):
     for one, other in ties:
         tie = (min(one, other), max(one, other))
         if tie[0] == tie[1]:
-            raise BadTie(f"the tie {tie} has one place twice")
+            raise BadTie("a tie has one place twice")
         if tie[0] < 0 or tie[1] >= places:
-            raise BadTie(f"the tie {tie} has a place that is not there")
+            raise BadTie("a tie has a place that is not there")
         if tie in found:
-            raise BadTie(f"the tie {tie} is there already")
+            raise BadTie("a tie is there twice")
         found[tie] = True
     return tuple(sorted(found))
 
@@ -39,7 +39,7 @@ def near_sets_of(places, ties):
 
 def refuse_no_place(web, place):
     if not 0 <= place < web.places:
-        raise NoPlace(f"the web has no place {place}")
+        raise NoPlace("the web has no such place")
 
 
 def near(web, place):
