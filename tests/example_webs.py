@@ -87,6 +87,15 @@ def twelves():
     return shapes + [scattered(12, step) for step in range(1, 6)]
 
 
+def sixties():
+    """Webs of 60 places, some with two colours and some without."""
+    two = [bare(60), row(60), ring(60), star(60), grid(10, 6), Web(60, [(a, b) for a in range(30) for b in range(30, 60)])]
+    beside = Web(60, [(place, place + 2) for place in range(58)])
+    tailed = Web(60, [(place, place + 1) for place in range(59)] + [(55, 59)])
+    odd = [full(60), tailed, Web(60, [(place, place + 1) for place in range(58)] + [(0, 58)]), scattered(60, 3)]
+    return two + [beside], odd
+
+
 def tied(web, one, other):
     return (min(one, other), max(one, other)) in web.ties
 
@@ -165,3 +174,32 @@ def duel(web, guards, kind):
 def with_guards(webs):
     """Each web with each number of guards and either kind."""
     return [(web, guards, kind) for web in webs for guards in range(1, web.places + 1) for kind in KINDS]
+
+
+def ways(web, begun, other):
+    """Every list of unlike places that leads on from the one begun."""
+    if begun[-1] == other:
+        return [begun]
+    further = [place for place in range(web.places) if tied(web, begun[-1], place) and place not in begun]
+    return [way for place in further for way in ways(web, begun + [place], other)]
+
+
+def answers_rightly(web, standing, call, kind, told):
+    """The document's words over one tuple, for webs too large to go through all."""
+    unlike = len(set(told)) == len(told) == len(standing)
+    going = [(guard, place) for guard, place in zip(standing, told) if guard != place]
+    return (unlike and call in told and all(tied(web, guard, place) for guard, place in going)
+            and (kind == "all" or len(going) == 1))
+
+
+def partitions(places):
+    """Every way to part the places, the parts rising by their least."""
+    if not places:
+        return [[]]
+    first, rest = places[0], places[1:]
+    told = []
+    for size in range(len(rest) + 1):
+        for others in itertools.combinations(rest, size):
+            left = tuple(place for place in rest if place not in others)
+            told.extend([((first,) + others)] + further for further in partitions(left))
+    return told

@@ -2,6 +2,7 @@ import itertools
 import unittest
 
 from example_webs import WithRefusals, all_ties, bare, every_set, full, grid, ring, row, small_webs, star, tied
+from example_webs import ways
 from guardround.errors import BadPlaces, BadTie, NoPlace
 from guardround.webs import Web, near, parts_of, way_between, web_within
 
@@ -81,14 +82,6 @@ class NearPlaces(WithRefusals):
         for web in (bare(1), full(3), bare(60)):
             for place in (-1, -web.places, web.places, web.places + 1, 1000):
                 self.assert_refused(NoPlace, near, web, place)
-
-
-def ways(web, begun, other):
-    """Every list of unlike places that leads on from the one begun."""
-    if begun[-1] == other:
-        return [begun]
-    further = [place for place in range(web.places) if tied(web, begun[-1], place) and place not in begun]
-    return [way for place in further for way in ways(web, begun + [place], other)]
 
 
 class PartsOfAWeb(unittest.TestCase):
