@@ -86,10 +86,13 @@ def falling_now(field, left):
     return told
 
 
+def lasting_bits(field, gone):
+    return sum([1 << number for number in range(len(field.everything)) if number not in gone])
+
+
 def lasting(web, guards, kind):
     field = Field(web, guards, kind)
-    gone = fallen(field)
-    return [standing for number, standing in enumerate(field.everything) if number not in gone]
+    return [field.everything[number] for number in members(lasting_bits(field, fallen(field)))]
 
 
 def falls(web, guards, kind):

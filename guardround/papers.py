@@ -1,22 +1,24 @@
 """The papers of a duel: the guide's and the caller's."""
 
-from guardround.duel import Field, fallen, falls
+from guardround.duel import Field, fallen, falls, lasting_bits
+from guardround.fitting import members
 from guardround.standings import how_many
 
 
 def guide_paper(web, guards, kind):
     field = Field(web, guards, kind)
-    gone = fallen(field)
-    lasting_ones = [number for number in range(len(field.everything)) if number not in gone]
-    if not lasting_ones:
+    kept = lasting_bits(field, fallen(field))
+    if kept == 0:
         return None
-    kept = sum([1 << number for number in lasting_ones])
-    return [(field.everything[number], guide_rows(field, number, kept)) for number in lasting_ones]
+    return [(field.everything[number], guide_rows(field, number, kept)) for number in members(kept)]
 
 
 def guide_rows(field, number, kept):
-    calls = field.calls(number)
-    return tuple([(call, field.first_answer(number, call, field.behind(number, call) & kept)) for call in calls])
+    return tuple([(call, guide_answer(field, number, call, kept)) for call in field.calls(number)])
+
+
+def guide_answer(field, number, call, kept):
+    return field.first_answer(number, call, field.behind(number, call) & kept)
 
 
 def caller_paper(web, guards, kind):
