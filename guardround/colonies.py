@@ -1,6 +1,6 @@
 """Colonies: sets of places whose guards answer the calls within them, of the kind all."""
 
-from guardround.answers import refuse_no_call, with_step
+from guardround.answers import refuse_no_call
 from guardround.errors import BadColony
 from guardround.sets import is_club
 from guardround.webs import near, parts_of, way_between, web_within
@@ -44,8 +44,7 @@ def colony_answer(web, colonies, standing, call):
     refuse_no_call(web, standing, call)
     colony = [one for one in colonies if call in one[0]][0]
     extra = [place for place in standing if place in colony[0] and place not in colony[1]][0]
-    if not colony[1]:
-        return with_step(standing, extra, call)
+    # Of a club, which has no inner places, this is the one step from the guard to the call.
     way = way_through(web, colony[1], extra, call)
     steps = dict(zip(way, way[1:]))
     return tuple([steps.get(guard, guard) for guard in standing])

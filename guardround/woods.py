@@ -1,9 +1,9 @@
 """Woods: webs without a ring, and colonies of theirs with as few guards as can be.
 
-A wood is gone through from its furthest places to the least place of each part. At each place the best that can be
-done with it and all beyond it is kept, in three ways, each with its number of guards and its finished colonies:
+Each part is gone through from its furthest places to its least one. At each place the fewest guards for it and all
+beyond it are kept with their finished colonies, in three ways:
 closed: the place is in a colony that has no place nearer to the least one;
-lent: the place goes to the colony of the next nearer place, which counts a guard for it or none;
+lent: the place is in the colony of the next nearer place, and its guard, if it needs one, is counted there;
 inner: the place is an inner one of a colony that is still open, whose inner and further places are kept too.
 """
 

@@ -250,15 +250,22 @@ class CallersPapers(unittest.TestCase):
         for web in (row(3), star(3), bare(3), full(3), Web(3, [(0, 1)])):
             for guards in (1, 2):
                 standings = list(itertools.combinations(range(3), guards))
-                choices = [[(standing, number, call) for number in (0, 1, 2) for call in range(3)]
+                choices = [[(standing, number, call) for number in (0, 1, 2) for call in range(-1, 4)]
                            for standing in standings]
-                for paper in itertools.product(*choices):
-                    if any(call in standing for standing, number, call in paper):
-                        self.assertIs(caller_holds(web, guards, "all", list(paper)), False)
-                        continue
+                for paper in itertools.islice(itertools.product(*choices), guards, None, 3):
                     for kind in KINDS:
                         wanted = right_caller(web, guards, kind, list(paper))
                         self.assertIs(caller_holds(web, guards, kind, list(paper)), wanted)
+
+    def test_calls_that_are_none_where_nobody_can_move(self):
+        for kind in KINDS:
+            self.assertIs(caller_holds(bare(2), 1, kind, [((0,), 1, 1), ((1,), 1, 0)]), True)
+            for call in (0, -1, -2, 2, 3, 10 ** 40):
+                self.assertIs(caller_holds(bare(2), 1, kind, [((0,), 1, call), ((1,), 1, 0)]), False)
+
+    def test_a_paper_is_a_list(self):
+        self.assertIs(self.holds(tuple(self.paper)), False)
+        self.assertIs(guide_holds(bare(1), 1, "one", (((0,), ()),)), False)
 
 
 class NeverBoth(unittest.TestCase):

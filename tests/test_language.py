@@ -27,6 +27,7 @@ copyright credits delattr dir eval exec exit gc getattr globals hasattr help id 
 quit setattr super vars sys""".split()
 KEYWORDS = {"sorted": ["key", "reverse"], "min": ["key", "default"], "max": ["key", "default"], "sum": ["start"],
             "enumerate": ["start"], "zip": ["strict"]}
+CHANGES = ["append", "clear", "extend", "insert", "pop", "remove", "reverse", "setdefault", "update"]
 WALKED = ["zip", "enumerate", "reversed", "range"]
 WALKERS = ["list", "tuple", "dict", "sorted", "sum", "any", "all", "enumerate", "zip", "min", "max"]
 
@@ -45,6 +46,11 @@ def top_names(tree):
         elif isinstance(node, ast.ImportFrom):
             names.extend(name.asname or name.name for name in node.names)
     return names
+
+
+def called(node):
+    """The name of what is called, where it is a plain one."""
+    return node.func.id if isinstance(node, ast.Call) and isinstance(node.func, ast.Name) else None
 
 
 def own_methods():
@@ -188,6 +194,60 @@ class TheFiles(unittest.TestCase):
             for node in ast.walk(tree):
                 if isinstance(node, ast.Call) and isinstance(node.func, ast.Name) and node.func.id in WALKED:
                     self.assertIn(node, walked, ast.unparse(node))
+
+    def test_sets_are_not_kept_and_not_walked(self):
+        for path, tree in self.each():
+            for above in ast.walk(tree):
+                for node in ast.iter_child_nodes(above):
+                    if isinstance(node, ast.Set) or (isinstance(node, ast.Call) and called(node) in ("set", "frozenset")):
+                        beside = isinstance(above, ast.Compare)
+                        within = isinstance(above, ast.Call) and called(above) in ("sorted", "len")
+                        self.assertTrue(beside or (within and above.keywords == []), ast.unparse(above))
+
+    def test_no_loop_changes_what_it_walks(self):
+        for path, loop in self.nodes(ast.For):
+            walked = [node.id for node in ast.walk(loop.iter) if isinstance(node, ast.Name)]
+            for node in [inner for statement in loop.body for inner in ast.walk(statement)]:
+                changed = None
+                if isinstance(node, ast.Call) and isinstance(node.func, ast.Attribute) and node.func.attr in CHANGES:
+                    changed = node.func.value
+                elif isinstance(node, ast.Subscript) and isinstance(node.ctx, ast.Store):
+                    changed = node.value
+                if isinstance(changed, ast.Name):
+                    direct = isinstance(loop.iter, ast.Name) or called(loop.iter) in WALKED
+                    self.assertFalse(direct and changed.id in walked, ast.unparse(loop))
+
+    def test_errors_are_made_on_the_spot_and_taken_by_name(self):
+        refusals = top_names(tree_of(PACKAGE / "errors.py"))
+        for path, node in self.nodes(ast.Raise):
+            self.assertIn(called(node.exc), refusals)
+            self.assertIsNone(node.cause)
+        for path, node in self.nodes(ast.ExceptHandler):
+            self.assertIn(node.type.id, refusals + ["KeyError", "ZeroDivisionError", "StopIteration"])
+
+    def test_methods_with_two_underscores(self):
+        for path, node in self.nodes(ast.FunctionDef):
+            if node.name == "__init__":
+                self.assertEqual([inner for inner in ast.walk(node) if isinstance(inner, ast.Return)], [])
+            else:
+                self.assertFalse(node.name.startswith("_"))
+
+    def test_no_name_is_a_method_here_and_a_value_there(self):
+        values = [node.attr for path, node in self.nodes(ast.Attribute) if isinstance(node.ctx, ast.Store)]
+        self.assertEqual([name for name in values if name in own_methods()], [])
+        python_own = [name for kind in (str, int, list, dict, set, bytes, tuple) for name in dir(kind)]
+        self.assertEqual([name for name in values if name in python_own], [])
+        self.assertEqual([name for name in own_methods() if name in python_own and name != "__init__"], [])
+
+    def test_lists_of_a_files_top_are_only_read(self):
+        for path, tree in self.each():
+            for node in tree.body:
+                if isinstance(node, ast.Assign):
+                    self.assertNotIsInstance(node.value, (ast.List, ast.Dict), path.name)
+
+    def test_lambdas(self):
+        lines = [(path, node.lineno) for path, node in self.nodes(ast.Lambda)]
+        self.assertEqual(len(lines), len(set(lines)))
 
 
 if __name__ == "__main__":

@@ -42,7 +42,9 @@ def of_two_colours(webs):
 
 
 def small_ones():
-    return of_two_colours(small_webs(4) + every_web(5)[::7] + plain_shapes(6) + [grid(3, 2)])
+    """Among them two stars with their middles tied, which have places unpaired of either colour in one part."""
+    stars = [Web(6, [(0, 1), (0, 2), (0, 3), (3, 4), (3, 5)]), Web(7, [(2, 0), (2, 1), (2, 3), (3, 4), (3, 5), (3, 6)])]
+    return of_two_colours(small_webs(4) + every_web(5)[::7] + plain_shapes(6) + [grid(3, 2)] + stars)
 
 
 class Told(unittest.TestCase):
