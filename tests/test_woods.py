@@ -6,7 +6,7 @@ from example_webs import plain_shapes, ring, row, sixties, small_webs, star, tie
 from guardround.colonies import colony_answer, first_standing, guards_of, looked
 from guardround.errors import NotWood
 from guardround.fewest import fewest
-from guardround.webs import Web
+from guardround.webs import Web, parts_of
 from guardround.woods import is_wood, wood_colonies
 
 
@@ -30,6 +30,16 @@ def trees(places):
     for nearer in itertools.product(*[range(at) for at in range(1, places)]):
         web = hung(nearer)
         told.setdefault(min(shape_of(web, place, None) for place in range(places)), web)
+    return list(told.values())
+
+
+def woods(places):
+    """One wood of each shape, of one part or several."""
+    told = {}
+    for nearer in itertools.product(*[[None] + list(range(at)) for at in range(1, places)]):
+        web = hung(nearer)
+        shapes = [min(shape_of(web, place, None) for place in part) for part in parts_of(web)]
+        told.setdefault(tuple(sorted(shapes)), web)
     return list(told.values())
 
 
@@ -117,7 +127,7 @@ class ColoniesOfWoods(WithRefusals):
         return told
 
     def test_all_small_woods_by_rounds(self):
-        for web in small_webs(4) + every_web(5)[::3]:
+        for web in small_webs(4) + every_web(5):
             if is_wood(web):
                 guards = guards_of(self.check(web))
                 self.assertTrue(duel(web, guards, "all")[0])
@@ -129,6 +139,13 @@ class ColoniesOfWoods(WithRefusals):
             for web in trees(places):
                 for one in (web, turned(web, 7), turned(web, 23)):
                     self.assertEqual(guards_of(self.check(one)), fewest(one, "all"), one.ties)
+                self.assertEqual(by_cutting(web), fewest(web, "all"), web.ties)
+
+    def test_all_woods_of_up_to_seven_places(self):
+        self.assertEqual([len(woods(places)) for places in range(1, 8)], [1, 2, 3, 6, 10, 20, 37])
+        for places in range(1, 8):
+            for web in woods(places):
+                self.assertEqual(guards_of(self.check(web)), fewest(web, "all"), web.ties)
                 self.assertEqual(by_cutting(web), fewest(web, "all"), web.ties)
 
     def test_woods_of_several_parts(self):
